@@ -1,0 +1,1 @@
+"""millrolls: rolls cut into ordered widths."""

@@ -1,0 +1,101 @@
+"""The interface as the document lists it, and the rules of the language that a glance cannot keep."""
+
+import ast
+import inspect
+import pathlib
+import unittest
+import warnings
+
+import millrolls.errors
+import millrolls.mills
+import millrolls.rationals
+
+FOLDER = pathlib.Path(__file__).resolve().parent.parent / "millrolls"
+
+# What the document lists under each file: names and the arguments that it names.
+INTERFACE = {
+    millrolls.errors: {
+        "MillrollsError": None, "LineError": ["line"], "PowerCut": ["written"],
+        "BadPattern": None, "BadOrder": None, "ShutError": None,
+    },
+    millrolls.rationals: {
+        "common_divisor": ["first", "second"], "made": ["top", "bottom"],
+        "added": ["first", "second"], "taken": ["first", "second"],
+        "times": ["first", "second"], "divided": ["first", "second"],
+        "is_less": ["first", "second"], "floor_of": ["one"], "ceiling_of": ["one"],
+    },
+    millrolls.mills: {
+        "Mill": ["rolls", "widths", "knives"], "is_mill": ["mill"], "is_order": ["mill", "order"],
+    },
+}
+
+
+def listed():
+    return [(module, name, arguments)
+            for module, names in INTERFACE.items() for name, arguments in names.items()]
+
+
+class Interface(unittest.TestCase):
+    def test_each_name_stands_in_its_own_file(self):
+        for module, name, _ in listed():
+            self.assertEqual(getattr(module, name).__module__, module.__name__, name)
+
+    def test_each_takes_the_arguments_that_are_listed(self):
+        for module, name, arguments in listed():
+            if arguments is not None:
+                told = list(inspect.signature(getattr(module, name)).parameters)
+                self.assertEqual(told, arguments, name)
+
+    def test_arguments_can_be_given_by_their_names(self):
+        self.assertEqual(millrolls.rationals.common_divisor(first=4, second=6), 2)
+        self.assertEqual(millrolls.rationals.made(top=4, bottom=6), (2, 3))
+        self.assertEqual(millrolls.rationals.floor_of(one=(7, 2)), 3)
+        self.assertEqual(millrolls.rationals.ceiling_of(one=(7, 2)), 4)
+        mill = millrolls.mills.Mill(rolls=[(9, 1)], widths=[3], knives=2)
+        self.assertIs(millrolls.mills.is_mill(mill=mill), True)
+        self.assertIs(millrolls.mills.is_order(mill=mill, order=(1,)), True)
+
+
+class Language(unittest.TestCase):
+    def files(self):
+        found = sorted(FOLDER.rglob("*.py"))
+        self.assertTrue(found)
+        return found
+
+    def test_the_folder_holds_python_files_alone(self):
+        for path in FOLDER.iterdir():
+            if path.name != "__pycache__":
+                self.assertEqual(path.suffix, ".py", path)
+
+    def test_characters_and_sizes(self):
+        for path in self.files():
+            text = path.read_bytes().decode("ascii")
+            lines = text.split("\n")
+            self.assertLessEqual(len(lines), 399, path)
+            self.assertLessEqual(max(len(line) for line in lines), 120, path)
+            self.assertTrue(all(" " <= sign <= "~" or sign == "\n" for sign in text), path)
+
+    def test_python_gives_no_warning(self):
+        for path in self.files():
+            with warnings.catch_warnings():
+                warnings.simplefilter("error")
+                compile(path.read_text(), str(path), "exec")
+
+    def test_a_function_has_at_most_40_lines(self):
+        for path in self.files():
+            for node in ast.walk(ast.parse(path.read_text())):
+                if isinstance(node, ast.FunctionDef):
+                    self.assertLessEqual(node.end_lineno - node.lineno + 1, 40, (path, node.name))
+
+    def test_imports_are_from_the_package_or_the_few_allowed_modules(self):
+        for path in self.files():
+            for node in ast.walk(ast.parse(path.read_text())):
+                self.assertNotIsInstance(node, ast.Import, path)
+                if isinstance(node, ast.ImportFrom):
+                    root = node.module.split(".")[0]
+                    self.assertEqual(node.level, 0, path)
+                    self.assertIn(root, ("millrolls", "math", "heapq", "itertools", "collections"))
+
+
+if __name__ == "__main__":
+    unittest.main()
