@@ -44,7 +44,7 @@ def widest_roll(rolls):
 
 def are_widths(widths, widest):
     """Return whether a list can be the widths of a mill whose widest roll is so wide."""
-    # The widest roll keeps the widths below their own bound, which is the same as its own.
+    # No roll is wider than MOST_WIDTH, so the widest one keeps that bound for the widths too.
     return (
         1 <= len(widths) <= MOST_WIDTHS
         and len(set(widths)) == len(widths)
