@@ -8,7 +8,11 @@ import warnings
 
 import millrolls.errors
 import millrolls.mills
+import millrolls.patterns
+import millrolls.plans
 import millrolls.rationals
+import millrolls.texts
+import millrolls.weights
 
 FOLDER = pathlib.Path(__file__).resolve().parent.parent / "millrolls"
 
@@ -26,6 +30,19 @@ INTERFACE = {
     },
     millrolls.mills: {
         "Mill": ["rolls", "widths", "knives"], "is_mill": ["mill"], "is_order": ["mill", "order"],
+    },
+    millrolls.texts: {"format_mill": ["mill", "orders"], "parse_mill": ["text"]},
+    millrolls.patterns: {
+        "used": ["mill", "pattern"], "trim": ["mill", "pattern"], "is_pattern": ["mill", "pattern"],
+        "is_maximal": ["mill", "pattern"], "patterns": ["mill", "kind"], "maximal": ["mill"],
+    },
+    millrolls.plans: {
+        "plan_counts": ["mill", "plan"], "plan_cost": ["mill", "plan"], "plan_trim": ["mill", "plan"],
+        "is_plan": ["mill", "plan"], "meets": ["mill", "order", "plan"], "counted": ["cuts"],
+        "least_cost": ["mill", "order"], "least_plan": ["mill", "order"],
+    },
+    millrolls.weights: {
+        "are_weights": ["mill", "weights"], "worth": ["weights", "counts"], "bound": ["weights", "order"],
     },
 }
 
