@@ -30,7 +30,7 @@ def is_plan(mill, plan):
 def meets(mill, order, plan):
     """Return whether a list is a plan, as in is_plan, and gives at least what is ordered."""
     return is_plan(mill, plan) and all([
-        given >= ordered for given, ordered in zip(plan_counts(mill, plan), order)
+        given >= wanted for given, wanted in zip(plan_counts(mill, plan), order)
     ])
 
 

@@ -7,10 +7,13 @@ import unittest
 import warnings
 
 import millrolls.errors
+import millrolls.linear
 import millrolls.mills
 import millrolls.patterns
 import millrolls.plans
+import millrolls.ranges
 import millrolls.rationals
+import millrolls.rounded
 import millrolls.texts
 import millrolls.weights
 
@@ -44,6 +47,9 @@ INTERFACE = {
     millrolls.weights: {
         "are_weights": ["mill", "weights"], "worth": ["weights", "counts"], "bound": ["weights", "order"],
     },
+    millrolls.linear: {"best_weights": ["mill", "order"], "fractional_plan": ["mill", "order"]},
+    millrolls.rounded: {"rounded_up": ["mill", "order"], "rounded_down": ["mill", "order"]},
+    millrolls.ranges: {"tight": ["mill", "most"], "ranged_plan": ["mill", "most", "low", "high"]},
 }
 
 
