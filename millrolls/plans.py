@@ -44,8 +44,9 @@ def counted(cuts):
 
 def least_cost(mill, order):
     """Return the least cost of plans that meet an order."""
-    search = Search(order_columns(mill, maximal(mill), order), len(ordered(order, order)))
-    return search.least(ordered(order, order), search.greatest_cost(ordered(order, order)))
+    rest = ordered(order, order)
+    search = Search(order_columns(mill, maximal(mill), order), len(rest))
+    return search.least(rest, search.greatest_cost(rest))
 
 
 def least_plan(mill, order):

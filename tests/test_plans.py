@@ -3,7 +3,7 @@
 import random
 import unittest
 
-from brute import cheapest_of, some_mill, some_mills, some_order, state, told_plan
+from brute import cheapest_of, some_mills, some_order, state, told_plan
 from millrolls.mills import Mill
 from millrolls.patterns import maximal, patterns
 from millrolls.plans import (
