@@ -3,6 +3,7 @@
 import random
 import unittest
 from itertools import product
+from unittest.mock import patch
 
 from brute import cheapest_of, some_mill, some_mills, some_order
 from millrolls.mills import Mill
@@ -119,6 +120,16 @@ class Least(unittest.TestCase):
             search = search_of(mill)
             for most in (least + 9, least, least - 1, -1, -99):
                 self.assertEqual(search.least(order, most), least if most >= least else None)
+
+    def test_little_effort_for_the_bounds_changes_no_cost(self):
+        for effort in (0, 1, 2, 5):
+            with patch("millrolls.corners.MOST_EFFORT", effort):
+                for rng, mill in some_mills(57 + effort, 40, 3):
+                    order = some_order(rng, mill, 3)
+                    least = cheapest_of(mill)(order)
+                    search = search_of(mill)
+                    self.assertEqual(search.least(order, least), least)
+                    self.assertIsNone(search.least(order, least - 1))
 
     def test_nothing_costs_less_than_nothing(self):
         search = search_of(Mill([(10, 1)], [5], 2))
