@@ -7,7 +7,12 @@ from millrolls.simplex import Columns
 
 def best_weights(mill, order):
     """Return some weights that are best for an order."""
-    tableau = best_tableau(mill, maximal(mill), order)
+    return weights_among(mill, maximal(mill), order)
+
+
+def weights_among(mill, cuts, order):
+    """Return what best_weights returns, by all maximal patterns of the mill."""
+    tableau = best_tableau(mill, cuts, order)
     return [made(price, tableau.scale) for price in tableau.thing_prices()]
 
 

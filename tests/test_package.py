@@ -7,6 +7,7 @@ import unittest
 import warnings
 
 import millrolls.errors
+import millrolls.gaps
 import millrolls.linear
 import millrolls.mills
 import millrolls.patterns
@@ -14,7 +15,10 @@ import millrolls.plans
 import millrolls.ranges
 import millrolls.rationals
 import millrolls.rounded
+import millrolls.sheets
+import millrolls.stacks
 import millrolls.texts
+import millrolls.trees
 import millrolls.weights
 
 FOLDER = pathlib.Path(__file__).resolve().parent.parent / "millrolls"
@@ -50,6 +54,22 @@ INTERFACE = {
     millrolls.linear: {"best_weights": ["mill", "order"], "fractional_plan": ["mill", "order"]},
     millrolls.rounded: {"rounded_up": ["mill", "order"], "rounded_down": ["mill", "order"]},
     millrolls.ranges: {"tight": ["mill", "most"], "ranged_plan": ["mill", "most", "low", "high"]},
+    millrolls.trees: {
+        "tree_paper": ["mill", "order"], "verify_tree": ["mill", "order", "least", "paper"],
+    },
+    millrolls.gaps: {
+        "fraction_cost": ["mill", "order"], "gap": ["mill", "order"], "gaps_within": ["mill", "most"],
+        "single_costs": ["mill", "place"], "single_cost": ["costs", "many"], "single_gaps": ["mill", "place"],
+    },
+    millrolls.sheets: {
+        "best_sheet": ["pieces", "width", "height"], "tree_worth": ["pieces", "width", "height", "tree"],
+        "tree_counts": ["pieces", "tree"], "sheet_paper": ["pieces", "width", "height"],
+        "verify_sheet": ["pieces", "width", "height", "most", "paper"],
+    },
+    millrolls.stacks: {
+        "open_stacks": ["cuts", "done", "place"], "most_open": ["cuts", "order"], "fewest_open": ["cuts"],
+        "stack_paper": ["cuts"], "verify_stacks": ["cuts", "least", "paper"],
+    },
 }
 
 
