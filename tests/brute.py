@@ -3,7 +3,7 @@
 import random
 from fractions import Fraction
 from functools import lru_cache
-from itertools import permutations, product
+from itertools import combinations_with_replacement, permutations, product
 
 from millrolls.mills import Mill, is_mill
 
@@ -246,3 +246,22 @@ def shows_stacks(cuts, least, paper):
             if behind not in numbers or number > max(stacks_at(cuts, places, place), numbers[behind]):
                 return False
     return True
+
+
+def all_days(mill, most, orders):
+    """Return the least cost and the first rows of maximal patterns, by trying all rows on all days; or None."""
+    known = all_maximal(mill)
+    rows = [list(row) for many in range(most + 1) for row in combinations_with_replacement(known, many)]
+    found = []
+
+    def go_on(day, stock, cost, told):
+        if day == len(orders):
+            found.append((cost, told))
+            return
+        for row in rows:
+            now = [some + sum(counts[at] for _, counts in row) - orders[day][at] for at, some in enumerate(stock)]
+            if min(now) >= 0:
+                go_on(day + 1, now, cost + sum(mill.rolls[kind][1] for kind, _ in row), told + [row])
+
+    go_on(0, [0] * len(mill.widths), 0, [])
+    return min(found, default=None)

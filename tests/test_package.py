@@ -6,8 +6,12 @@ import pathlib
 import unittest
 import warnings
 
+import millrolls.books
+import millrolls.days
 import millrolls.errors
 import millrolls.gaps
+import millrolls.journal
+import millrolls.knives
 import millrolls.linear
 import millrolls.mills
 import millrolls.patterns
@@ -70,6 +74,25 @@ INTERFACE = {
         "open_stacks": ["cuts", "done", "place"], "most_open": ["cuts", "order"], "fewest_open": ["cuts"],
         "stack_paper": ["cuts"], "verify_stacks": ["cuts", "least", "paper"],
     },
+    millrolls.knives: {
+        "changes": ["one", "other"], "total_changes": ["cuts", "order"], "fewest_changes": ["cuts"],
+    },
+    millrolls.days: {"least_days": ["mill", "most", "orders"], "run_days": ["mill", "orders", "plans"]},
+    millrolls.books: {"Book": ["mill"]},
+    millrolls.journal: {
+        "record_of": ["deed"], "recovered": ["mill", "octets"], "Device": ["octets", "power"],
+        "JournaledBook": ["book", "device"], "opened": ["mill", "octets", "power"],
+    },
+}
+
+# The methods of each class, and the arguments behind the object's own.
+METHODS = {
+    millrolls.books.Book: {
+        "order": ["counts"], "cut": ["pattern", "many"], "totals": [], "lacking": [], "spent": [], "undo": [],
+        "branch": [],
+    },
+    millrolls.journal.Device: {"append": ["octet"]},
+    millrolls.journal.JournaledBook: {"perform": ["deed"]},
 }
 
 
@@ -88,6 +111,24 @@ class Interface(unittest.TestCase):
             if arguments is not None:
                 told = list(inspect.signature(getattr(module, name)).parameters)
                 self.assertEqual(told, arguments, name)
+
+    def test_each_method_stands_in_its_own_class(self):
+        for owner, methods in METHODS.items():
+            for name, arguments in methods.items():
+                self.assertIn(name, vars(owner))
+                told = list(inspect.signature(vars(owner)[name]).parameters)
+                self.assertEqual(told[1:], arguments, name)
+
+    def test_each_field_is_set_on_each_object(self):
+        mill = millrolls.mills.Mill([(9, 1)], [3], 2)
+        book = millrolls.books.Book(mill)
+        device = millrolls.journal.Device([], 1)
+        for one, fields in (
+            (mill, {"rolls", "widths", "knives"}), (book, {"deeds"}), (device, {"octets", "power"}),
+            (millrolls.journal.JournaledBook(book, device), {"book", "device", "shut"}),
+            (millrolls.errors.LineError(1), {"line"}), (millrolls.errors.PowerCut(1), {"written"}),
+        ):
+            self.assertTrue(fields <= set(vars(one)), one)
 
     def test_arguments_can_be_given_by_their_names(self):
         self.assertEqual(millrolls.rationals.common_divisor(first=4, second=6), 2)

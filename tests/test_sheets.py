@@ -301,6 +301,8 @@ class Papers(unittest.TestCase):
         self.assert_shows_nothing([], 1, 3, turned[:2] + [((1, 3), 2)])
         self.assert_shows_nothing([], 3, 1, [rows[0], rows[2]])
         self.assert_shows_nothing([], 3, 1, rows[1:])
+        self.assert_shows_nothing([], 3, 1, rows[:0:-1])
+        self.assert_shows_nothing([], 1, 3, turned[:0:-1])
 
     def test_numbers_may_be_greater_than_needed(self):
         paper = sheet_paper(PIECES, 3, 3)

@@ -225,7 +225,9 @@ class Papers(unittest.TestCase):
                     self.assert_shows_nothing(cuts, [(places, other)] + paper)
 
     def test_what_is_no_ascending_set_of_places(self):
-        for places in ((1, 0), (0, 0), (3,), (0, 3), (-1,), (0, 1, 2, 3), (0, 1, 1), (2, 1, 0)):
+        for places in (
+            (1, 0), (0, 0), (3,), (0, 3), (-1,), (0, 1, 2, 3), (0, 1, 1), (2, 1, 0), (0, 1, 3), (-1, 0, 1), (1, 2, 9),
+        ):
             self.assert_shows_nothing(APART, stack_paper(APART) + [(places, 0)])
             self.assert_shows_nothing(APART, stack_paper(APART) + [(places, -9)])
 

@@ -68,6 +68,9 @@ class RowsWithWeights(Case):
     def test_bottoms_that_no_fraction_has(self):
         for weights in ([(1, 0)], [(0, 0)], [(1, -1)], [(-2, -1)]):
             self.assert_shows_nothing(HALF, (1,), [((1,), 0, weights)])
+        for wrong in ((1, 0), (0, 0), (1, -1), (0, -1)):
+            self.assert_shows_nothing(PAIR, (1, 1), [((1, 1), 0, [(1, 1), wrong])])
+            self.assert_shows_nothing(PAIR, (1, 1), [((1, 1), 0, [wrong, (1, 1)])])
 
     def test_a_rest_of_nothing(self):
         self.assert_shown(HALF, (0,), 0, [((0,), 0, [(2, 1)])])
